@@ -9,9 +9,12 @@ var operators = [...]string{
 	api.And: "AND", api.Or: "OR", api.Xor: "XOR",
 }
 
-// expr reads an expression that is nested so deep.
+// expr reads an expression that is nested so deep. Where none begins, none is
+// too deep.
 func (p *parser) expr(nested int) api.Expr {
-	p.depth(nested)
+	if p.beginsExpr() {
+		p.depth(nested)
+	}
 	if p.take("-") {
 		return api.Expr{Kind: api.Neg, Args: []api.Expr{p.operand(nested)}}
 	}
@@ -26,6 +29,15 @@ func (p *parser) expr(nested int) api.Expr {
 	p.next()
 	right := p.operand(nested)
 	return api.Expr{Kind: api.Bin, N: operator, Args: []api.Expr{left, right}}
+}
+
+// beginsExpr tells whether an expression stands there.
+func (p *parser) beginsExpr() bool {
+	switch p.text() {
+	case "-", "NOT", "(", "AS", "REF", "DONE", "COUNT", "THIS", "SUPER", "TRUE", "FALSE", "NULL":
+		return true
+	}
+	return p.kind() == api.Digit || p.kind() == api.Word
 }
 
 // operatorOf answers which operator a word or sign is: 0, if it is none.

@@ -1,0 +1,56 @@
+package syntax_test
+
+import (
+	"slices"
+	"strings"
+	"testing"
+
+	"governor/api"
+)
+
+// atLimit puts each token, but some, behind tokens behind which all else that
+// could go on is too deep, or too many: a token with which nothing goes on is neither.
+func atLimit(t *testing.T, form, ahead string, code int, but ...string) {
+	t.Helper()
+	ask := wrong
+	if form == "expr" {
+		ask = wrongExpr
+	}
+	tokens := strings.Fields(ahead)
+	ahead = strings.Join(tokens, " ") + " "
+	ask(t, ahead, api.Syntax, len(ahead))
+	going := goOn(form, tokens)
+	limited := 0
+	for _, token := range all {
+		if slices.Contains(but, token) {
+			continue
+		}
+		expected := api.Syntax
+		if going[sort(token)] {
+			expected = code
+			limited++
+		}
+		for _, behind := range []string{"", " 1", " ) ;", " x := 1 ;"} {
+			ask(t, ahead+token+behind, expected, len(ahead))
+		}
+	}
+	if limited == 0 {
+		t.Errorf("nothing goes on behind %q", ahead)
+	}
+}
+
+// TestDeepNoExpr has tokens with which no expression begins where one would be nested too deeply.
+func TestDeepNoExpr(t *testing.T) {
+	for _, last := range []string{"(", "a [", "AS c (", "- (", "NOT a [", "1 + (", "a . m (", "THIS . m (", "SUPER . m ("} {
+		var but []string
+		if strings.HasSuffix(last, "m (") {
+			but = []string{")"} // the call may end there
+		}
+		ahead := times(5, "( ") + last
+		atLimit(t, "expr", ahead, api.Deep, but...)
+		atLimit(t, "expr", "1 + "+ahead, api.Deep, but...)
+		atLimit(t, "unit", "PROGRAM p ; x := "+ahead, api.Deep, but...)
+		atLimit(t, "unit", "PROGRAM p ; STEP x ( 1 , "+ahead, api.Deep, but...)
+	}
+	parsed(t, "PROGRAM p ; x := ( ( ( ( ( a . m ( ) ) ) ) ) ) ; END_PROGRAM")
+}
