@@ -63,7 +63,7 @@ func (p *parser) program() api.Decl {
 	d := api.Decl{Kind: api.Program, Name: p.name()}
 	p.expect(";")
 	d.Vars = p.vars()
-	d.Body = p.list(outermost)
+	d.Body = p.list(outermost, p.is("END_PROGRAM"))
 	p.expect("END_PROGRAM")
 	return d
 }
@@ -100,7 +100,7 @@ func (p *parser) method() api.Method {
 	m := p.signature()
 	m.Over, m.Abstract, m.Final = over, abstract, final
 	m.Vars = p.vars()
-	m.Body = p.list(outermost)
+	m.Body = p.list(outermost, p.is("END_METHOD"))
 	p.expect("END_METHOD")
 	return m
 }

@@ -54,3 +54,21 @@ func TestDeepNoExpr(t *testing.T) {
 	}
 	parsed(t, "PROGRAM p ; x := ( ( ( ( ( a . m ( ) ) ) ) ) ) ; END_PROGRAM")
 }
+
+// TestDeepNoStmt has tokens with which no statement begins, and no list ends, where one would be nested too deeply.
+func TestDeepNoStmt(t *testing.T) {
+	lists := []string{"IF a THEN ", "CASE x OF 1 : ", "CASE x OF - 1 , 2 : ", "CASE x OF ELSE ", "WHILE a DO ", "FOR i := 1 TO 2 BY - 1 DO "}
+	outer := append(lists, "IF a THEN ELSE ", "IF a THEN EXIT ; ELSIF b THEN ", "CASE x OF 1 : 2 : ", "WHILE a DO x := 1 ; ")
+	for i := range outer {
+		for j, last := range lists {
+			ahead := times(4, outer[i]) + outer[(i+j+1)%len(outer)] + last
+			atLimit(t, "unit", "PROGRAM p ; "+ahead, api.Deep)
+			atLimit(t, "unit", "CLASS c ; METHOD m ( ) ; "+ahead, api.Deep)
+		}
+	}
+	// Behind another word of that statement Deep was told ahead of the token.
+	for _, last := range []string{"IF a THEN @ELSE 7", "IF a THEN @ELSIF 7", "CASE a OF 1 : @ELSE 7", "CASE a OF 1 : @2 ) 7", "CASE a OF 1 : @- ) 7"} {
+		src, at := marked("PROGRAM p ; " + times(5, "WHILE a DO ") + last)
+		wrong(t, src, api.Deep, at)
+	}
+}

@@ -2,6 +2,7 @@ package syntax
 
 import (
 	"errors"
+	"slices"
 
 	"governor/api"
 	"governor/diag"
@@ -95,6 +96,11 @@ func (p *parser) text() string {
 // is tells whether the next token is that word of the language, or that sign.
 func (p *parser) is(text string) bool {
 	return p.text() == text
+}
+
+// isOne tells whether the next token is one of those.
+func (p *parser) isOne(texts ...string) bool {
+	return slices.ContainsFunc(texts, p.is)
 }
 
 // next goes behind the next token, and answers it.

@@ -6,9 +6,13 @@ import "governor/api"
 // expression of a statement.
 const outermost = 1
 
-// list reads the statements of a list that is nested so deep.
-func (p *parser) list(nested int) []api.Stmt {
-	p.depth(nested)
+// list reads the statements of a list that is nested so deep; ended tells whether
+// what ends it stands there already. Where neither that stands there nor a
+// statement, there is none too deep.
+func (p *parser) list(nested int, ended bool) []api.Stmt {
+	if ended || p.beginsStmt() {
+		p.depth(nested)
+	}
 	var list []api.Stmt
 	for p.beginsStmt() {
 		p.limit(len(list), api.MaxStmts)
@@ -83,14 +87,14 @@ func (p *parser) branches(nested int) api.Stmt {
 	for {
 		s.Exprs = append(s.Exprs, p.expr(outermost))
 		p.expect("THEN")
-		s.Blocks = append(s.Blocks, p.list(nested))
+		s.Blocks = append(s.Blocks, p.list(nested, p.isOne("ELSIF", "ELSE", "END_IF")))
 		if !p.is("ELSIF") {
 			break
 		}
 		p.limit(len(s.Exprs), api.MaxParts)
 		p.expect("ELSIF")
 	}
-	s.Blocks = append(s.Blocks, p.otherwise(nested))
+	s.Blocks = append(s.Blocks, p.otherwise(nested, "END_IF"))
 	p.expect("END_IF")
 	return s
 }
@@ -103,26 +107,25 @@ func (p *parser) cases(nested int) api.Stmt {
 		p.limit(len(s.Labels), api.MaxParts)
 		s.Labels = append(s.Labels, several(p, api.MaxLabels, p.int))
 		p.expect(":")
-		s.Blocks = append(s.Blocks, p.list(nested))
+		s.Blocks = append(s.Blocks, p.list(nested, p.beginsInt() || p.isOne("ELSE", "END_CASE")))
 	}
-	s.Blocks = append(s.Blocks, p.otherwise(nested))
+	s.Blocks = append(s.Blocks, p.otherwise(nested, "END_CASE"))
 	p.expect("END_CASE")
 	return s
 }
 
-// otherwise reads ELSE and its list, if they stand there.
-func (p *parser) otherwise(nested int) []api.Stmt {
+// otherwise reads ELSE and its list, which ends at that word, if they stand there.
+func (p *parser) otherwise(nested int, end string) []api.Stmt {
 	if !p.take("ELSE") {
 		return nil
 	}
-	return p.list(nested)
+	return p.list(nested, p.is(end))
 }
 
 // whileLoop reads what stands behind WHILE; its list is nested so deep.
 func (p *parser) whileLoop(nested int) api.Stmt {
 	s := api.Stmt{Kind: api.While, Exprs: []api.Expr{p.expr(outermost)}}
-	s.Blocks = [][]api.Stmt{p.body(nested)}
-	p.expect("END_WHILE")
+	s.Blocks = [][]api.Stmt{p.body(nested, "END_WHILE")}
 	return s
 }
 
@@ -136,15 +139,16 @@ func (p *parser) forLoop(nested int) api.Stmt {
 	s.Exprs = []api.Expr{from, to}
 	p.expect("BY")
 	s.N = p.int()
-	s.Blocks = [][]api.Stmt{p.body(nested)}
-	p.expect("END_FOR")
+	s.Blocks = [][]api.Stmt{p.body(nested, "END_FOR")}
 	return s
 }
 
-// body reads DO, and the list behind it.
-func (p *parser) body(nested int) []api.Stmt {
+// body reads DO, the list behind it, and the word at which that ends.
+func (p *parser) body(nested int, end string) []api.Stmt {
 	p.expect("DO")
-	return p.list(nested)
+	list := p.list(nested, p.is(end))
+	p.expect(end)
+	return list
 }
 
 // answer reads what stands behind RETURN.

@@ -534,7 +534,6 @@ func TestOrder(t *testing.T) {
 		{api.Size, thirteen + "@PROGRAM ; x"},
 		{api.Size, thirteen + "@CLASS C ; METHOD m ( ) ; EXIT EXIT"},
 		// At one token Deep goes ahead of Syntax, and Size does.
-		{api.Deep, "PROGRAM P ; " + times(6, "IF a THEN ") + "@) END_PROGRAM"},
 		{api.Size, "PROGRAM P ; x := a . m ( 1 , 2 , 3 , @) ; END_PROGRAM"},
 		{api.Size, "INTERFACE I ; METHOD m ( a : INT , b : INT , c : INT , @) ; END_INTERFACE"},
 		{api.Size, "CLASS C IMPLEMENTS a , b , c , d , @; END_CLASS"},
