@@ -49,7 +49,7 @@ func (p *parser) class() api.Decl {
 		d.Base = p.name()
 	}
 	if p.take("IMPLEMENTS") {
-		d.Faces = several(p, api.MaxFaces, p.name)
+		d.Faces = several(p, api.MaxFaces, p.beginsName, p.name)
 	}
 	p.expect(";")
 	d.Vars = p.vars()
@@ -110,7 +110,7 @@ func (p *parser) signature() api.Method {
 	m := api.Method{Name: p.name()}
 	p.expect("(")
 	if !p.is(")") {
-		m.Params = several(p, api.MaxParams, p.param)
+		m.Params = several(p, api.MaxParams, p.beginsName, p.param)
 	}
 	p.expect(")")
 	if p.take(":") {
@@ -173,7 +173,7 @@ func (p *parser) typeOf() api.Type {
 		return p.array()
 	case p.take("REF_TO"):
 		return api.Type{Kind: api.Ref, Name: p.name()}
-	case p.kind() == api.Word:
+	case p.beginsName():
 		return api.Type{Kind: api.Inst, Name: p.name()}
 	}
 	return p.timer()

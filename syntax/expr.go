@@ -37,7 +37,7 @@ func (p *parser) beginsExpr() bool {
 	case "-", "NOT", "(", "AS", "REF", "DONE", "COUNT", "THIS", "SUPER", "TRUE", "FALSE", "NULL":
 		return true
 	}
-	return p.kind() == api.Digit || p.kind() == api.Word
+	return p.kind() == api.Digit || p.beginsName()
 }
 
 // operatorOf answers which operator a word or sign is: 0, if it is none.
@@ -55,7 +55,7 @@ func (p *parser) operand(nested int) api.Expr {
 	switch {
 	case p.kind() == api.Digit:
 		return api.Expr{Kind: api.Num, N: p.number()}
-	case p.kind() == api.Word:
+	case p.beginsName():
 		return p.access(nested)
 	case p.take("("):
 		e := p.expr(nested + 1)
@@ -137,7 +137,7 @@ func (p *parser) invoke(nested int, of api.Expr) api.Expr {
 	e.What = p.name()
 	p.expect("(")
 	if !p.is(")") {
-		e.Args = several(p, api.MaxParams, func() api.Expr { return p.expr(nested + 1) })
+		e.Args = several(p, api.MaxParams, p.beginsExpr, func() api.Expr { return p.expr(nested + 1) })
 	}
 	p.expect(")")
 	return e

@@ -72,3 +72,24 @@ func TestDeepNoStmt(t *testing.T) {
 		wrong(t, src, api.Deep, at)
 	}
 }
+
+// TestSizeNoneMore has tokens with which no argument, parameter, name or int begins behind a comma behind as many as there may be.
+func TestSizeNoneMore(t *testing.T) {
+	for _, ahead := range []string{"a . m ( 1 , - b , ( c ) ,", "THIS . m ( 1 , 2 , a [ 3 ] ,", "SUPER . m ( NULL , a . m ( 1 , 2 , 3 ) , NOT x ,",
+		"( ( ( ( ( 1 ) ) ) ) ) + a . m ( 1 , 2 , 3 ,", "( ( ( ( a . m ( 1 , 2 , 3 ,"} {
+		atLimit(t, "expr", ahead, api.Size)
+		atLimit(t, "unit", "PROGRAM p ; IF "+ahead, api.Size)
+	}
+	for _, ahead := range []string{
+		"PROGRAM p ; a . m ( 1 , 2 , 3 ,",
+		"CLASS c ; METHOD n ( ) ; SUPER . m ( 1 , 2 , 3 ,",
+		"INTERFACE i ; METHOD m ( a : INT , b : REF_TO i , c : INT ( 1 .. 2 ) ,",
+		"CLASS c ; METHOD OVERRIDE m ( a : INT , b : TON , c : d ,",
+		"CLASS c IMPLEMENTS a , b , c , d ,",
+		"CLASS ABSTRACT c EXTENDS b IMPLEMENTS a , b , c , d ,",
+		"PROGRAM p ; CASE x OF 1 , 2 , 3 , 4 , 5 , 6 , 7 , - 8 ,",
+		"PROGRAM p ; CASE x OF 1 : - 1 , 2 , 3 , 4 , 5 , 6 , 7 , 8 ,",
+	} {
+		atLimit(t, "unit", ahead, api.Size)
+	}
+}

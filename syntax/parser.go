@@ -128,9 +128,14 @@ func (p *parser) expect(texts ...string) {
 	}
 }
 
+// beginsName tells whether a name stands there.
+func (p *parser) beginsName() bool {
+	return p.kind() == api.Word
+}
+
 // name reads a name.
 func (p *parser) name() string {
-	if p.kind() != api.Word {
+	if !p.beginsName() {
 		p.fail(errSyntax)
 		return ""
 	}
@@ -160,10 +165,13 @@ func (p *parser) int() int {
 }
 
 // several reads one thing at least, and at most so many, with commas between.
-func several[T any](p *parser, most int, read func() T) []T {
+// Where none begins behind a comma, none is too many.
+func several[T any](p *parser, most int, begins func() bool, read func() T) []T {
 	var things []T
 	for {
-		p.limit(len(things), most)
+		if begins() {
+			p.limit(len(things), most)
+		}
 		things = append(things, read())
 		if !p.take(",") {
 			return things

@@ -28,7 +28,7 @@ func (p *parser) beginsStmt() bool {
 	case "THIS", "SUPER", "IF", "CASE", "WHILE", "FOR", "RETURN", "EXIT", "STEP":
 		return true
 	}
-	return p.kind() == api.Word
+	return p.beginsName()
 }
 
 // stmt reads a statement of a list that is nested so deep, but for its `;`.
@@ -48,7 +48,7 @@ func (p *parser) stmt(nested int) api.Stmt {
 		return api.Stmt{Kind: api.Exit}
 	case p.take("STEP"):
 		return p.step()
-	case p.kind() == api.Word:
+	case p.beginsName():
 		return p.named()
 	}
 	return do(p.self(outermost))
@@ -105,7 +105,7 @@ func (p *parser) cases(nested int) api.Stmt {
 	p.expect("OF")
 	for p.beginsInt() {
 		p.limit(len(s.Labels), api.MaxParts)
-		s.Labels = append(s.Labels, several(p, api.MaxLabels, p.int))
+		s.Labels = append(s.Labels, several(p, api.MaxLabels, p.beginsInt, p.int))
 		p.expect(":")
 		s.Blocks = append(s.Blocks, p.list(nested, p.beginsInt() || p.isOne("ELSE", "END_CASE")))
 	}

@@ -533,11 +533,6 @@ func TestOrder(t *testing.T) {
 		{api.Syntax, "PROGRAM P ; x := a . m ( 1 , 2 , 3 @4 , 5 ) ; END_PROGRAM"},
 		{api.Size, thirteen + "@PROGRAM ; x"},
 		{api.Size, thirteen + "@CLASS C ; METHOD m ( ) ; EXIT EXIT"},
-		// At one token Deep goes ahead of Syntax, and Size does.
-		{api.Size, "PROGRAM P ; x := a . m ( 1 , 2 , 3 , @) ; END_PROGRAM"},
-		{api.Size, "INTERFACE I ; METHOD m ( a : INT , b : INT , c : INT , @) ; END_INTERFACE"},
-		{api.Size, "CLASS C IMPLEMENTS a , b , c , d , @; END_CLASS"},
-		{api.Size, "PROGRAM P ; CASE a OF 1 , 2 , 3 , 4 , 5 , 6 , 7 , 8 , @: END_CASE ; END_PROGRAM"},
 		{api.Size, thirteen + "@;"},
 		// What may end there is none too many.
 		{api.Syntax, "PROGRAM P ; " + times(24, "EXIT ; ") + "@) END_PROGRAM"},
