@@ -2,16 +2,21 @@ package syntax
 
 import "governor/api"
 
-// unit reads all declarations, and their places.
+// unit reads all declarations, and their places. It leaves unread what begins none.
 func (p *parser) unit() (api.Unit, []int) {
 	var unit api.Unit
 	var places []int
-	for len(p.tokens) > 0 {
+	for p.beginsDecl() {
 		p.limit(len(unit.Decls), api.MaxDecls)
 		places = append(places, p.place())
 		unit.Decls = append(unit.Decls, p.decl())
 	}
 	return unit, places
+}
+
+// beginsDecl tells whether a declaration stands there.
+func (p *parser) beginsDecl() bool {
+	return p.isOne("INTERFACE", "CLASS", "PROGRAM", "TASK")
 }
 
 // decl reads a declaration.
@@ -23,11 +28,9 @@ func (p *parser) decl() api.Decl {
 		return p.class()
 	case p.take("PROGRAM"):
 		return p.program()
-	case p.take("TASK"):
-		return p.task()
 	}
-	p.fail(errSyntax)
-	return api.Decl{}
+	p.expect("TASK")
+	return p.task()
 }
 
 // face reads what stands behind INTERFACE.

@@ -9,8 +9,7 @@ var operators = [...]string{
 	api.And: "AND", api.Or: "OR", api.Xor: "XOR",
 }
 
-// expr reads an expression that is nested so deep. Where none begins, none is
-// too deep.
+// expr reads an expression that is nested so deep.
 func (p *parser) expr(nested int) api.Expr {
 	if p.beginsExpr() {
 		p.depth(nested)

@@ -1,11 +1,14 @@
 package syntax_test
 
 import (
+	"math/rand"
 	"slices"
 	"strings"
 	"testing"
 
 	"governor/api"
+	"governor/diag"
+	"governor/syntax"
 )
 
 // atLimit puts each token, but some, behind tokens behind which all else that
@@ -91,5 +94,81 @@ func TestSizeNoneMore(t *testing.T) {
 		"PROGRAM p ; CASE x OF 1 : - 1 , 2 , 3 , 4 , 5 , 6 , 7 , 8 ,",
 	} {
 		atLimit(t, "unit", ahead, api.Size)
+	}
+}
+
+// TestSizeNoDecl has tokens with which no declaration begins behind as many as there may be.
+func TestSizeNoDecl(t *testing.T) {
+	for _, one := range []string{"PROGRAM p ; END_PROGRAM ", "CLASS c ; END_CLASS ", "INTERFACE i ; END_INTERFACE ", "TASK t ( INTERVAL 1 , PRIORITY 0 ) : p ; "} {
+		full := times(12, one)
+		parsed(t, full)
+		going := goOn("unit", strings.Fields(full))
+		for _, token := range all {
+			expected := api.Syntax
+			if going[sort(token)] {
+				expected = api.Size
+			}
+			for _, behind := range []string{"", " 1", " p ;", " " + one} {
+				wrong(t, full+token+behind, expected, len(full))
+			}
+		}
+	}
+}
+
+// crowds are things of which there are too many, or that are nested too deeply, where they may stand.
+var crowds = []string{"1 , 2 , - 3 ,", "1 , 2 , 3 , 4 , 5 , 6 , 7 , - 8 ,", "a , b , c , d ,", "a : INT , b : INT , c : INT ,", "( ( ( (",
+	times(8, "VAR v : INT ; "), times(24, "EXIT ; "), times(6, "METHOD m ( ) ; "), times(6, "METHOD m ( ) ; END_METHOD "),
+	times(5, "ELSIF a THEN "), times(6, "1 : "), times(4, "WHILE a DO "), times(12, "PROGRAM p ; END_PROGRAM ")}
+
+// crowd puts some of these into tokens, where a list may go on or begin.
+func crowd(r *rand.Rand, tokens []string) []string {
+	for range r.Intn(4) {
+		i := r.Intn(len(tokens))
+		for !slices.Contains([]string{"(", ",", ";", "DO", "THEN", "OF", "IMPLEMENTS"}, tokens[i]) {
+			i = (i + 1) % len(tokens)
+		}
+		tokens = slices.Insert(tokens, i+1, strings.Fields(crowds[r.Intn(len(crowds))])...)
+	}
+	return tokens
+}
+
+// TestLimitsGoOn holds sources made by chance against the grammar: Syntax stands
+// at the first token with which nothing goes on, Deep and Size ahead of it.
+func TestLimitsGoOn(t *testing.T) {
+	told := map[int]int{}
+	for seed := range int64(6000) {
+		m := &maker{Rand: rand.New(rand.NewSource(seed)), few: 1 + int(seed%3), deep: 8}
+		m.put("PROGRAM p ;")
+		m.stmt(1)
+		m.put("; END_PROGRAM")
+		m.decl()
+		m.tokens = crowd(m.Rand, m.tokens)
+		if m.maybe() {
+			m.tokens = spoil(m.Rand, m.tokens)
+		}
+		if len(m.tokens) > 300 {
+			continue
+		}
+		src, places := m.written()
+		_, _, err := syntax.Parse(src)
+		code, at, _ := diag.Find(err)
+		told[code]++
+		first, ends := stuck("unit", m.tokens)
+		place := append(places, len(src))[first]
+		good := ends && at == place
+		switch code {
+		case api.Fine:
+			good = !ends
+		case api.Deep, api.Size:
+			good = at < place && slices.Contains(places, at)
+		}
+		if !good {
+			t.Errorf("P4.2: Parse(%q): %v, but nothing goes on at %d", src, err, place)
+		}
+	}
+	for _, code := range []int{api.Fine, api.Syntax, api.Deep, api.Size} {
+		if told[code] < 50 {
+			t.Errorf("code %d is told %d times only", code, told[code])
+		}
 	}
 }

@@ -25,14 +25,10 @@ type parser struct {
 }
 
 // fail keeps what is wrong where the parser stands, if nothing was wrong ahead
-// of it. Where there is no token, none is too deep and none is too many: the
-// tokens end too early.
+// of it.
 func (p *parser) fail(wrong error) {
 	if p.wrong != nil {
 		return
-	}
-	if len(p.tokens) == 0 {
-		wrong = errSyntax
 	}
 	p.wrong = wrong
 	p.at = p.place()
@@ -55,14 +51,16 @@ func (p *parser) end() error {
 	return diag.New(api.Syntax, p.at)
 }
 
-// limit fails where one more stands behind as many as there may be.
+// limit fails where one more begins behind as many as there may be. It is asked
+// only where one begins: what begins none is not too many, but wrong.
 func (p *parser) limit(count, most int) {
 	if count >= most {
 		p.fail(errSize)
 	}
 }
 
-// depth fails where something is nested more than may be.
+// depth fails where what begins, or the end of a list, is nested more than may be.
+// It is asked only where there is such a thing.
 func (p *parser) depth(nested int) {
 	if nested > api.MaxDeep {
 		p.fail(errDeep)
@@ -165,7 +163,6 @@ func (p *parser) int() int {
 }
 
 // several reads one thing at least, and at most so many, with commas between.
-// Where none begins behind a comma, none is too many.
 func several[T any](p *parser, most int, begins func() bool, read func() T) []T {
 	var things []T
 	for {

@@ -7,8 +7,7 @@ import "governor/api"
 const outermost = 1
 
 // list reads the statements of a list that is nested so deep; ended tells whether
-// what ends it stands there already. Where neither that stands there nor a
-// statement, there is none too deep.
+// what ends it stands there already.
 func (p *parser) list(nested int, ended bool) []api.Stmt {
 	if ended || p.beginsStmt() {
 		p.depth(nested)

@@ -533,7 +533,6 @@ func TestOrder(t *testing.T) {
 		{api.Syntax, "PROGRAM P ; x := a . m ( 1 , 2 , 3 @4 , 5 ) ; END_PROGRAM"},
 		{api.Size, thirteen + "@PROGRAM ; x"},
 		{api.Size, thirteen + "@CLASS C ; METHOD m ( ) ; EXIT EXIT"},
-		{api.Size, thirteen + "@;"},
 		// What may end there is none too many.
 		{api.Syntax, "PROGRAM P ; " + times(24, "EXIT ; ") + "@) END_PROGRAM"},
 		{api.Syntax, "CLASS C ; " + times(6, "METHOD m ( ) ; END_METHOD ") + "@VAR x : INT ; END_CLASS"},
