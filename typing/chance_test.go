@@ -67,7 +67,7 @@ func (c *chance) method() api.Method {
 		}
 		m.Params = append(m.Params, p)
 	}
-	m.Result = api.Type{Kind: c.Intn(3)}
+	m.Result = api.Type{Kind: c.Intn(3), Lo: c.Intn(2), Hi: c.Intn(3) - 1}
 	if c.Intn(4) == 0 {
 		m.Result = c.typeOf()
 	}

@@ -1,6 +1,10 @@
 package typing
 
-import "governor/api"
+import (
+	"cmp"
+
+	"governor/api"
+)
 
 // formed tells whether an expression is of a kind, and has as many parts as that kind has.
 func formed(e api.Expr) bool {
@@ -35,15 +39,11 @@ func (s *scope) expr(e api.Expr) (api.Type, int) {
 	case api.Name:
 		return s.name(e)
 	case api.Index:
-		if code := s.must(e.Name, api.Array); code != api.Fine {
-			return api.Type{}, code
-		}
-		// The place, like what is negated, is a number, as is what stands there.
-		fallthrough
+		return told(plain(api.Int), cmp.Or(s.must(e.Name, api.Array), s.want(e.Args, api.Int)))
 	case api.Neg:
-		return told(plain(api.Int), s.want(e.Args, api.Int))
+		return s.negated(e.Args[0], api.Int)
 	case api.Not:
-		return told(plain(api.Bool), s.want(e.Args, api.Bool))
+		return s.negated(e.Args[0], api.Bool)
 	case api.Bin:
 		return s.operated(e)
 	case api.RefOf:
@@ -110,6 +110,16 @@ func (s *scope) name(e api.Expr) (api.Type, int) {
 		return v.Type, api.Fine
 	}
 	return api.Type{}, api.Typing
+}
+
+// negated answers the type of what is negated, which must be of that kind: all
+// that is told of the type stays, not the kind alone.
+func (s *scope) negated(e api.Expr, kind int) (api.Type, int) {
+	t, code := s.expr(e)
+	if code == api.Fine && t.Kind != kind {
+		return api.Type{}, api.Typing
+	}
+	return t, code
 }
 
 // operated answers the type of what an operator makes of two operands.

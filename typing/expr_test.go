@@ -212,7 +212,7 @@ func odd() api.Unit {
 	self := api.Decl{Kind: api.Class, Name: "L", Base: "L", Methods: []api.Method{
 		result("ref", ref("L")), result("part", part), result("list", api.Type{Kind: api.Array, Hi: 2}), result("none", api.Type{Name: "L", Lo: 1}),
 		result("strange", api.Type{Kind: 77}), result("void", number, api.Type{}), result("many", truth, number, part, truth, null, ref("L")),
-		result("full", api.Type{Kind: api.Int, Lo: 4, Hi: 5, Name: "x"}), result("inst", number, api.Type{Kind: api.Inst, Name: "L"}),
+		result("full", api.Type{Kind: api.Int, Lo: 4, Hi: 5, Name: "x"}), result("sure", api.Type{Kind: api.Bool, Lo: 1, Hi: -2, Name: "y"}), result("inst", number, api.Type{Kind: api.Inst, Name: "L"}),
 	}}
 	self.Vars = []api.Var{
 		{Name: "i", Type: api.Type{Kind: api.Int, Lo: 1, Hi: 2, Name: "L"}}, {Name: "b", Type: api.Type{Kind: api.Bool, Lo: 1}}, {Name: "p", Type: part},
@@ -231,6 +231,9 @@ func TestOddExpr(t *testing.T) {
 	in := func(d int) api.Where { return api.Where{Decl: d} }
 	call := func(n int, name, what string, args ...api.Expr) api.Expr {
 		return api.Expr{Kind: api.Invoke, N: n, Name: name, What: what, Args: args}
+	}
+	around := func(kind int, e api.Expr) api.Expr {
+		return api.Expr{Kind: kind, Args: []api.Expr{e}}
 	}
 	two := func(op int, e api.Expr) api.Expr {
 		return api.Expr{Kind: api.Bin, N: op, Args: []api.Expr{e, e}}
@@ -252,6 +255,13 @@ func TestOddExpr(t *testing.T) {
 		{in(2), call(0, "r", "none"), api.Type{}, api.Typing},
 		{in(2), two(api.Eq, call(0, "r", "part")), api.Type{}, api.Typing}, {in(2), two(api.Eq, call(0, "r", "strange")), api.Type{}, api.Typing},
 		{in(2), two(api.Add, call(0, "r", "part")), api.Type{}, api.Typing}, {in(2), two(api.Ne, call(0, "r", "ref")), truth, 0}, {in(2), two(api.Add, call(0, "r", "full")), number, 0},
+		// What is negated keeps all that is told of its type; what is reckoned, or stands at a place, has a kind alone.
+		{in(2), around(api.Neg, call(0, "r", "full")), api.Type{Kind: api.Int, Lo: 4, Hi: 5, Name: "x"}, 0}, {in(2), around(api.Neg, around(api.Neg, call(1, "", "full"))), api.Type{Kind: api.Int, Lo: 4, Hi: 5, Name: "x"}, 0},
+		{in(2), around(api.Not, call(0, "o", "sure")), api.Type{Kind: api.Bool, Lo: 1, Hi: -2, Name: "y"}, 0}, {in(2), around(api.Not, around(api.Not, call(1, "", "sure"))), api.Type{Kind: api.Bool, Lo: 1, Hi: -2, Name: "y"}, 0},
+		{in(2), around(api.Neg, api.Expr{Kind: api.Name, Name: "i"}), number, 0}, {in(2), around(api.Not, api.Expr{Kind: api.Name, Name: "b"}), truth, 0},
+		{in(2), around(api.Neg, call(0, "r", "sure")), api.Type{}, api.Typing}, {in(2), around(api.Not, call(0, "r", "full")), api.Type{}, api.Typing}, {in(2), around(api.Neg, call(0, "r", "part")), api.Type{}, api.Typing}, {in(2), around(api.Not, call(0, "r", "none")), api.Type{}, api.Typing},
+		{in(2), around(api.Not, around(api.Neg, call(0, "r", "full"))), api.Type{}, api.Typing}, {in(2), around(api.Neg, unknown), api.Type{}, api.Unknown}, {in(2), around(api.Not, call(0, "r", "sure", n)), api.Type{}, api.Call},
+		{in(2), api.Expr{Kind: api.Index, Name: "a", Args: []api.Expr{around(api.Neg, call(0, "r", "full"))}}, number, 0}, {in(2), two(api.Sub, around(api.Neg, call(0, "r", "full"))), number, 0}, {in(2), two(api.And, around(api.Not, call(0, "r", "sure"))), truth, 0},
 		// Parameters of any kind, and as many as one likes.
 		{in(2), call(0, "r", "void", n), api.Type{}, api.Call}, {in(2), call(0, "r", "void"), api.Type{}, api.Call}, {in(2), call(0, "r", "inst", r), api.Type{}, api.Call},
 		{in(2), call(0, "r", "many", n, n, b, r, r), truth, 0}, {in(2), call(0, "r", "many", n, n, b, r, n), api.Type{}, api.Call},

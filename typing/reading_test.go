@@ -121,11 +121,13 @@ func (r *reading) expr(e api.Expr) api.Type {
 		must(r.expr(e.Args[0]).Kind == api.Int, api.Typing)
 		return whole
 	case api.Neg:
-		must(r.expr(e.Args[0]).Kind == api.Int, api.Typing)
-		return whole
+		that := r.expr(e.Args[0])
+		must(that.Kind == api.Int, api.Typing)
+		return that
 	case api.Not:
-		must(r.expr(e.Args[0]).Kind == api.Bool, api.Typing)
-		return logic
+		that := r.expr(e.Args[0])
+		must(that.Kind == api.Bool, api.Typing)
+		return that
 	case api.Bin:
 		return r.bin(e)
 	case api.RefOf:
